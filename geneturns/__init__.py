@@ -1,0 +1,1 @@
+"""Genes turned about: a row of genes, stretches of which are turned."""
