@@ -37,6 +37,18 @@ class NoRow(unittest.TestCase):
         told = asked(BEGIN, DISTANCE, PARTS, good(0, 0), good(1, 0), good(LEAST, MOST), PATH, GENES)
         self.assertEqual(told, [[0]] + [[-4]] * 7)
 
+    def test_these_four_also_behind_a_begin_that_took_the_row(self):
+        told = asked(BEGIN, row(3, 1, 2), BEGIN, DISTANCE, PARTS, good(0, 2), PATH)
+        self.assertEqual(told, [[0], [0], [0], [-4], [-4], [-4], [-4]])
+
+    def test_these_four_also_behind_a_row_that_was_refused(self):
+        told = asked(BEGIN, row(1, 1), DISTANCE, PARTS, good(0, 1), PATH)
+        self.assertEqual(told, [[0], [-1], [-4], [-4], [-4], [-4]])
+
+    def test_goes_ahead_of_what_good_refuses(self):
+        for i, j in ((-1, 0), (0, -1), (1, 0), (LEAST, MOST), (MOST, LEAST), (32, 33)):
+            self.assertEqual(asked(BEGIN, good(i, j)), [[0], [-4]], (i, j))
+
     def test_row_is_not_refused_so(self):
         self.assertEqual(asked(BEGIN, row()), [[0], [-1]])
         self.assertEqual(asked(BEGIN, row(1)), [[0], [0]])

@@ -9,11 +9,13 @@ import unittest
 
 import geneturns
 from geneturns.genes import answers
-from lines import BEGIN, GENES, UNDO, asked, joined, row, turn
+from lines import BEGIN, DISTANCE, FORTRESS, GENES, PARTS, PATH, TEN, UNDO, asked, good, joined, row, turn
 
-LINE = [0, 2, 1, 3, 2, 4294967295, 4294967293, 2, 3, 0, 1, 2, 3, 2, 1, 4, 2, 1, 0, 0, 4]
+LINE = [0, 2, 1, 3, 2, 4294967295, 4294967293, 2, 3, 0, 1, 2, 3, 2, 1, 4, 2, 5, 6, 7, 1, 1, 7, 0, 0, 7, 1, 0, 8, 2,
+        1, 0, 0, 4, 5, 6, 7, 0, 0, 8]
 ANSWERS = [1, 0, 1, -4, 1, 0, 4, 3, 2, -1, -3, 1, 0, 4, 3, 1, -2, -3, 1, -1,
-           1, 0, 4, 3, 1, -2, -3, 1, -1, 1, 0, 1, -4]
+           1, 0, 4, 3, 1, -2, -3, 1, 2, 5, 0, 2, 0, 0, 3, 1, 1, 1, 0, 1, -1, 5, 4, 1, 1, 2, 2, 4, 3, 1, -2, -3,
+           1, -1, 1, 0, 1, -4, 1, -4, 1, -4, 1, -4, 1, -4]
 
 
 class Untouchable(list):
@@ -45,12 +47,24 @@ class Form(unittest.TestCase):
         self.assertEqual(answers([0, 1, 0]), [1, 0, 1, -1])
         self.assertEqual(answers([0, 2]), [1, 0, 1, -4])
         self.assertEqual(answers([0, 1, 1, 1, 3, 0, 1]), [1, 0, 1, 0, 1, -1])
+        self.assertEqual(answers([0, 1, 1, 1, 7, 0, 1]), [1, 0, 1, 0, 1, -1])
+        self.assertEqual(answers([0, 5, 6, 7, 0, 1, 8]), [1, 0, 1, -4, 1, -4, 1, -4, 1, -4])
+
+    def test_how_many_numbers_stands_before_each_answer(self):
+        told = answers([0, 1, 2, 2, 1, 5, 6, 7, 0, 0, 8])
+        self.assertEqual(told, [1, 0, 1, 0, 1, 3, 5, 0, 1, 1, 0, 3, 1, 1, 7, 6, 0, 0, 0, 1, 0, 0])
+        self.assertEqual(answers([0, 1, 1, 1, 8]), [1, 0, 1, 0, 1, 0])
 
     def test_what_is_given_back_is_a_list_of_whole_numbers(self):
         told = answers(LINE)
         self.assertIs(type(told), list)
         for number in told:
             self.assertIs(type(number), int)
+
+    def test_so_it_is_with_a_fortress_and_without(self):
+        for genes in (FORTRESS, TEN, [1]):
+            for number in answers(joined([BEGIN, row(*genes), DISTANCE, PARTS, good(0, 0), PATH])):
+                self.assertIs(type(number), int)
 
     def test_numbers_of_a_refused_row_are_not_taken_for_calls(self):
         self.assertEqual(answers([0, 1, 3, 0, 2, 4, 2]), [1, 0, 1, -1, 1, -4])
